@@ -1,0 +1,43 @@
+"""Keys, values, ranges and rows (points [13] and [14])."""
+
+from crosskeep.data.texts import is_text
+
+KEY_SIGNS = 8
+VALUE_SIGNS = 20
+MOST_VALUE = 10 ** 15
+KEY_ALPHABET = "abcdefghijklmnopqrstuvwxyz0123456789"
+
+
+def is_integer_within(data, most):
+    """Return True if data is an integer from -most to most, otherwise False."""
+    # Python counts truth values among the integers; the document does not.
+    return isinstance(data, int) and not isinstance(data, bool) and -most <= data <= most
+
+
+def is_key(data):
+    """Return True if packable data is a key, otherwise False."""
+    if not isinstance(data, str) or not 1 <= len(data) <= KEY_SIGNS:
+        return False
+    return all([sign in KEY_ALPHABET for sign in data])
+
+
+def is_value(data):
+    """Return True if packable data is a value, otherwise False."""
+    if isinstance(data, str):
+        return len(data) <= VALUE_SIGNS and is_text(data)
+    return is_integer_within(data, MOST_VALUE)
+
+
+def is_range(start, end):
+    """Return True if packable data are the start and the end of a range, otherwise False."""
+    return (start == "" or is_key(start)) and (end is None or is_key(end))
+
+
+def key_in(key, start, end):
+    """Return True if the range has the key, otherwise False."""
+    return start <= key and (end is None or key < end)
+
+
+def rows_in(rows, start, end):
+    """Return a tuple of the pairs (key, value) of the rows that the range has, in the order of keys."""
+    return tuple([(key, rows[key]) for key in sorted(rows) if key_in(key, start, end)])
