@@ -8,3 +8,12 @@ HIGH_SIGNS = "&'()*+,-./0123456789:;<=>?@ABCDEFGHIJKLMNOPQRSTUVWXYZ[\\]^_`abcdef
 def is_text(data):
     """Return True if data is a text, otherwise False."""
     return isinstance(data, str) and all([sign in LOW_SIGNS or sign in HIGH_SIGNS for sign in data])
+
+
+def sign_of(code):
+    """Return the character of texts that has this code, or None if there is none."""
+    if 32 <= code < 37:
+        return LOW_SIGNS[code - 32]
+    if 38 <= code <= 126:
+        return HIGH_SIGNS[code - 38]
+    return None
