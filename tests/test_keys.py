@@ -2,7 +2,9 @@
 
 import unittest
 
-from crosskeep.data.keys import KEY_SIGNS, MOST_VALUE, VALUE_SIGNS, is_key, is_range, is_value, key_in, rows_in
+from crosskeep.data.keys import (
+    KEY_SIGNS, MOST_VALUE, VALUE_SIGNS, is_key, is_range, is_value, is_within, key_in, rows_in, with_ends,
+)
 from crosskeep.data.texts import is_text
 from samples import NEVER
 
@@ -94,6 +96,20 @@ class Ranges(unittest.TestCase):
         ]
         for key, start, end, wanted in cases:
             self.assertIs(key_in(key, start, end), wanted, (key, start, end))
+
+    def test_ranges_within_a_range(self):
+        cases = [
+            ("", None, "", None, True), ("b", "c", "b", "c", True), ("b", "c", "", None, True),
+            ("b", None, "b", None, True), ("b", None, "b", "z", False), ("a", "c", "b", "d", False),
+            ("c", "e", "b", "d", False), ("b", "c", "b0", "c", False), ("b", "c0", "b", "c", False),
+            ("c", "d", "a", "b", False), ("", "b", "a", None, False),
+        ]
+        for start, end, low, high, wanted in cases:
+            self.assertIs(is_within(start, end, low, high), wanted, (start, end, low, high))
+
+    def test_ranges_of_a_plan(self):
+        self.assertEqual(with_ends((("", 2),)), [("", None, 2)])
+        self.assertEqual(with_ends((("", 1), ("b", 2), ("b0", 1))), [("", "b", 1), ("b", "b0", 2), ("b0", None, 1)])
 
 
 class Rows(unittest.TestCase):

@@ -38,6 +38,17 @@ def key_in(key, start, end):
     return start <= key and (end is None or key < end)
 
 
+def is_within(start, end, low, high):
+    """Return True if the range from start to end lies within the one from low to high, otherwise False."""
+    return low <= start and (high is None or (end is not None and end <= high))
+
+
+def with_ends(ranges):
+    """Return a list of the tuples (start, end, cell) of the ranges of a plan: each ends where the next one begins."""
+    ends = [start for start, cell in ranges[1:]] + [None]
+    return [(start, end, cell) for (start, cell), end in zip(ranges, ends)]
+
+
 def rows_in(rows, start, end):
     """Return a tuple of the pairs (key, value) of the rows that the range has, in the order of keys."""
     return tuple([(key, rows[key]) for key in sorted(rows) if key_in(key, start, end)])

@@ -1,5 +1,7 @@
 """Pieces: the ranges that a keeper knows, with who has them (points [59] and [60])."""
 
+from crosskeep.data.keys import with_ends
+
 OWN = "own"
 LEAVING = "leaving"
 AWAY = "away"
@@ -22,12 +24,9 @@ class Piece:
 
 def first_pieces(cell, ranges):
     """Return the list of the pieces of a new keeper."""
-    starts = [start for start, owner in ranges]
-    ends = starts[1:] + [None]
-    owners = [owner for start, owner in ranges]
     return [
         Piece(start, end, OWN if owner == cell else AWAY, 1, owner)
-        for start, end, owner in zip(starts, ends, owners)
+        for start, end, owner in with_ends(ranges)
     ]
 
 

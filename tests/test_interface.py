@@ -1,0 +1,84 @@
+"""The names, arguments and default values of the interface, each defined in the file that the document tells."""
+
+import ast
+import importlib
+import inspect
+import unittest
+
+INTERFACE = {
+    "data.keys": "is_key(data) is_value(data) is_range(start,end) key_in(key,start,end) rows_in(rows,start,end)",
+    "data.deeds": "is_deed(data) apply_deed(rows,deed)",
+    "data.deals": "is_deal(data) keys_of(deal) do_deal(rows,deal)",
+    "data.parts": "part_of(deal,keys) keys_of_part(part) try_part(rows,part) write_rows(rows,writes) join_parts(tried)",
+    "data.store": "Store(rows=None) Store.do(deal) Store.fork()",
+    "packing.packs": "pack(data) unpack(octets)",
+    "packing.frames": "checksum(octets) frame(payload) read_frames(octets)",
+    "journal.journal": "Journal() Journal.append(payload) Journal.sync() Journal.crash(count) Journal.payloads()"
+                       " Journal.image() Journal.frame_count Journal.synced_frames Journal.octet_count"
+                       " Journal.synced_octets Journal.fork() read_journal(octets)",
+    "bag.bag": "Bag() Bag.send(sender,receiver,body) Bag.message(number) Bag.take(number) Bag.drop(number)"
+               " Bag.is_cut(number) Bag.double(number) Bag.numbers() Bag.cut(sender,receiver)"
+               " Bag.heal(sender,receiver) Bag.links() Bag.fork()",
+    "voting.ballots": "is_members(members,size) more_than_half(members,indexes) next_ballot(after,index)",
+    "voting.acceptor": "Acceptor(promised=(0,0),accepted=None) Acceptor.hears(ballot) Acceptor.promise(ballot)"
+                       " Acceptor.accept(ballot,entry) Acceptor.fork()",
+    "voting.attempt": "Attempt(ballot,entry,members) Attempt.hear_promise(index,accepted) Attempt.hear_vote(index)"
+                      " Attempt.fork()",
+    "voting.votes": "choice_of(members,votes) grounds_of(members,votes) are_grounds(members,votes,grounds)"
+                    " unlawful_ballot(members,votes)",
+    "ledger.entries": "members_of_slot(first_members,row,slot) batch_of(commands) commands_of(entry)",
+    "ledger.diary": "Diary() Diary.apply(command) Diary.settled(command)",
+    "ledger.record": "Record() Record.do(update) Record.upto record_of(payloads)",
+    "ledger.node": "Node(index,size,first_members,make_machine,lazy) Node.upto Node.members_now Node.offer(command)"
+                   " Node.offer_members(members) Node.receive(sender,body) Node.tick() Node.sync() Node.crash(count)"
+                   " Node.restart() Node.wipe() Node.sends() Node.letters() Node.new_votes() Node.fork(make_machine)",
+    "ledger.tally": "Tally(first_members) Tally.add(slot,index,ballot,entry) Tally.members_of(slot)"
+                    " Tally.votes_of(slot) Tally.fork()",
+    "keeper.pieces": "Piece(start,end,state,epoch,cell) Piece.as_row() first_pieces(cell,ranges)"
+                     " piece_at(pieces,key) cut_at(pieces,key)",
+    "keeper.keeper": "Keeper(cell,ranges) Keeper.apply(command) Keeper.settled(command) Keeper.orders()"
+                     " Keeper.answer_of(client,number) Keeper.verdict_of(client,number) Keeper.piece_rows()"
+                     " Keeper.key_rows() Keeper.lock_rows() Keeper.hold_rows() Keeper.home_rows()"
+                     " Keeper.leaving_rows() Keeper.took(mover) Keeper.refused(mover) Keeper.decided_rows()"
+                     " Keeper.writes_of(client,number)",
+    "clients.beliefs": "first_beliefs(ranges) cell_of(beliefs,key) learned(beliefs,hint) places_of(beliefs,names)",
+    "clients.client": "OpenCall(number,deal,places) OpenCall.home OpenCall.request() Client(ranges)"
+                      " Client.begin(deal) Client.hear(number,answer)",
+    "clients.history": "History() History.ask(client,number,deal) History.close(client,number,answer) History.rows()",
+    "errors": "CrossError Malformed OutOfRange NotDeal NoMessage LinkCut NoNode NodeDown NodeUp NodeGone NoClient"
+              " CallOpen NoCall",
+    "world.endpoints": "endpoint_of(cell,index) cell_at(endpoint) index_at(endpoint) is_client(endpoint)",
+}
+
+
+def told_by(name, thing):
+    """A name with its arguments and default values, as the table has it."""
+    if isinstance(thing, property) or (isinstance(thing, type) and issubclass(thing, ValueError)):
+        return name
+    arguments = str(inspect.signature(thing)).replace(" ", "")
+    return name + arguments.replace("(self)", "()").replace("(self,", "(")
+
+
+class Interface(unittest.TestCase):
+    def each(self):
+        for module_name, listed in INTERFACE.items():
+            module = importlib.import_module("crosskeep." + module_name)
+            for told in listed.split():
+                yield module, told, told.partition("(")[0]
+
+    def test_names_and_arguments(self):
+        for module, told, name in self.each():
+            holder, _, method = name.partition(".")
+            # A method of a base class would not do.
+            thing = vars(vars(module)[holder])[method] if method else vars(module)[holder]
+            self.assertEqual(told_by(name, thing), told)
+
+    def test_each_is_defined_in_its_file(self):
+        for module, _, name in self.each():
+            tree = ast.parse(inspect.getsource(module))
+            defined = [node.name for node in tree.body if isinstance(node, (ast.FunctionDef, ast.ClassDef))]
+            self.assertIn(name.partition(".")[0], defined)
+
+
+if __name__ == "__main__":
+    unittest.main()
