@@ -23,7 +23,7 @@ class Endpoints(unittest.TestCase):
             self.assertIs(is_client(client), True)
 
     def test_neither(self):
-        for endpoint in (4, 5, 9, 10, 40, 47):
+        for endpoint in (-1, 4, 5, 9, 10, 40, 47):
             self.assertIs(is_client(endpoint), False, endpoint)
 
 
