@@ -185,6 +185,43 @@ class Crashes(unittest.TestCase):
         self.assertEqual(updates(node), [("promise", 1, (1, 1)), ("promise", 1, (2, 1))])
 
 
+class DeepCommands(unittest.TestCase):
+    """Points [22], [41], [42] and [45]: commands as deep as packable data may be come back behind a crash."""
+
+    def command(self, depth):
+        command = ("x", -(10 ** 18))
+        for _ in range(depth - 1):
+            command = (command,)
+        return command
+
+    def node_that_accepted(self, command, lazy):
+        node = new_node(0, 1, (0,), lazy)
+        self.assertIs(node.offer(command), True)
+        node.receive(0, ("promise", 1, (1, 0), None))
+        node.receive(0, ("tell", 1, (1, 0), ("batch", (command,))))
+        return node
+
+    def test_rows(self):
+        for depth in (1, 36, 37, 38, 39, 40, 41):
+            for lazy in (False, True):
+                command = self.command(depth)
+                node = self.node_that_accepted(command, lazy)
+                node.receive(0, ("voted", 1, (1, 0)))
+                node.crash(10 ** 6)
+                self.assertEqual((node.state, node.record.row), ("down", [("batch", (command,))]), depth)
+                node.restart()
+                self.assertEqual((node.record.row, node.machine.lines), ([("batch", (command,))], [command]), depth)
+
+    def test_what_was_accepted(self):
+        for depth in (1, 36, 37, 38, 39, 40, 41):
+            node = self.node_that_accepted(self.command(depth), False)
+            node.crash(0)
+            accepted = ((1, 0), ("batch", (self.command(depth),)))
+            for _ in range(2):
+                self.assertEqual((node.record.row, node.record.acceptor.accepted), ([], accepted), depth)
+                node.restart()
+
+
 class Wiped(unittest.TestCase):
     def check_gone(self, node):
         self.assertEqual(everything(node), {

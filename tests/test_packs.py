@@ -4,7 +4,7 @@ import unittest
 from itertools import product
 
 from crosskeep.errors import Malformed
-from crosskeep.packing.packs import MOST_DEPTH, MOST_INTEGER, pack, unpack
+from crosskeep.packing.packs import MOST_DEPTH, MOST_INTEGER, pack, unpack, unpack_own
 
 SIGNS = "".join([chr(code) for code in range(32, 127) if code != 37])
 MOST = 10 ** 18
@@ -177,3 +177,26 @@ class MalformedOctets(unittest.TestCase):
                 good += 1
                 self.assertEqual(pack(data), list(octets))
         self.assertGreater(good, 100)
+
+
+class OwnPacks(unittest.TestCase):
+    """Packs that the program made of what callers pass, who may go somewhat beyond the limits."""
+
+    def test_within_the_limits(self):
+        for data in DATA:
+            self.assertEqual(unpack_own(pack(data)), data)
+
+    def test_beyond_the_limits(self):
+        for data in (nested(41), nested(43, (1, "x")), nested(60), MOST + 1, -MOST - 1, (10 ** 30, nested(50))):
+            octets = pack(data)
+            self.assertEqual(unpack_own(octets), data)
+            self.assertEqual(octets, pack(data))
+
+    def test_no_packs(self):
+        for octets in ([], [5], [4, 1], [1, 128, 0], [3, 1, 37], [0, 0]):
+            with self.assertRaises(Malformed):
+                unpack_own(octets)
+
+
+if __name__ == "__main__":
+    unittest.main()

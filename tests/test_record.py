@@ -55,6 +55,17 @@ class Records(unittest.TestCase):
         with self.assertRaises(Malformed):
             record_of([pack(UPDATES[0]), [4, 1]])
 
+    def test_commands_as_deep_as_packable_data_may_be_and_deeper(self):
+        for depth in (1, 36, 37, 38, 39, 40, 41, 50):
+            command = (10 ** 18 + depth,)
+            for _ in range(depth - 1):
+                command = (command,)
+            entry = ("batch", (command, ("x",)))
+            accepted = record_of([pack(("accept", 1, (1, 2), entry))])
+            self.assertEqual(fields(accepted), ([], 0, (1, 2), ((1, 2), entry)), depth)
+            chosen = record_of([pack(("chosen", 1, entry))])
+            self.assertEqual(fields(chosen), ([entry], 1, (0, 0), None), depth)
+
     def test_a_new_acceptor_for_each_slot(self):
         record = Record()
         record.do(UPDATES[0])

@@ -1,6 +1,6 @@
 """What the updates of a journal make: a row, and the acceptor of the next slot (point [42])."""
 
-from crosskeep.packing.packs import unpack
+from crosskeep.packing.packs import unpack_own
 from crosskeep.voting.acceptor import Acceptor
 
 PROMISE = "promise"
@@ -43,5 +43,6 @@ def record_of(payloads):
     """Return the Record that packed updates, a list of lists of octets, make."""
     record = Record()
     for payload in payloads:
-        record.do(unpack(payload))
+        # An update lays tuples of its own around a command that may be as deep as packable data can be.
+        record.do(unpack_own(payload))
     return record

@@ -55,14 +55,34 @@ def _add_sevens(octets, number):
 
 def unpack(octets):
     """Return the data whose pack a list of octets is. Raise Malformed if it is none."""
-    data, end = _read_data(octets, 0, 0)
+    data = _read_whole(octets, MOST_DEPTH)
+    if _has_great_integer(data):
+        raise Malformed("an integer is too great")
+    return data
+
+
+def unpack_own(octets):
+    """Return the data of a pack that the program made, however deep it is and however great its integers are."""
+    # Each tuple takes two octets, so no data of these octets can be deeper than this.
+    return _read_whole(octets, len(octets))
+
+
+def _read_whole(octets, room):
+    """Return the data whose pack these octets are, with at most so many tuples one in another."""
+    data, end = _read_data(octets, 0, room)
     if end < len(octets):
         raise Malformed("octets stand behind the pack")
     return data
 
 
-def _read_data(octets, at, depth):
-    """Return the data whose pack begins at a place within so many tuples, and the place behind it."""
+def _has_great_integer(data):
+    if isinstance(data, tuple):
+        return any([_has_great_integer(item) for item in data])
+    return isinstance(data, int) and not -MOST_INTEGER <= data <= MOST_INTEGER
+
+
+def _read_data(octets, at, room):
+    """Return the data whose pack begins at a place, with room for so many tuples, and the place behind it."""
     kind = _octet_at(octets, at)
     if kind == NOTHING:
         return None, at + 1
@@ -71,17 +91,13 @@ def _read_data(octets, at, depth):
     if kind == TEXT:
         return _read_text(octets, at + 1)
     if kind == TUPLE:
-        return _read_tuple(octets, at + 1, depth + 1)
+        return _read_tuple(octets, at + 1, room)
     raise Malformed("no data begins with this octet")
 
 
 def _read_integer(octets, at):
     number, end = _read_sevens(octets, at + 1)
-    if octets[at] == BELOW_ZERO:
-        number = -number - 1
-    if not -MOST_INTEGER <= number <= MOST_INTEGER:
-        raise Malformed("the integer is too great")
-    return number, end
+    return (-number - 1 if octets[at] == BELOW_ZERO else number), end
 
 
 def _read_text(octets, at):
@@ -95,13 +111,13 @@ def _read_text(octets, at):
     return "".join(signs), end
 
 
-def _read_tuple(octets, at, depth):
-    if depth > MOST_DEPTH:
+def _read_tuple(octets, at, room):
+    if room == 0:
         raise Malformed("too many tuples lie one in another")
     length, end = _read_sevens(octets, at)
     items = []
     for _ in range(length):
-        item, end = _read_data(octets, end, depth)
+        item, end = _read_data(octets, end, room - 1)
         items.append(item)
     return tuple(items), end
 
