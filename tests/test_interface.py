@@ -48,6 +48,18 @@ INTERFACE = {
     "errors": "CrossError Malformed OutOfRange NotDeal NoMessage LinkCut NoNode NodeDown NodeUp NodeGone NoClient"
               " CallOpen NoCall",
     "world.endpoints": "endpoint_of(cell,index) cell_at(endpoint) index_at(endpoint) is_client(endpoint)",
+    "world.plan": "Plan(sizes,members,ranges,lazy)",
+    "world.station": "Station(cell,index,plan) Station.endpoint Station.receive(sender,body) Station.tick()"
+                     " Station.restart() Station.forget() Station.outgoing()",
+    "world.onlooker": "Onlooker(plan) Onlooker.see(cell,index,votes) Onlooker.commands()",
+    "world.world": "World(sizes,members,ranges,lazy) World.deliver(number) World.drop(number) World.double(number)"
+                   " World.cut(sender,receiver) World.heal(sender,receiver) World.tick(endpoint) World.sync(endpoint)"
+                   " World.crash(endpoint,count) World.restart(endpoint) World.wipe(endpoint)"
+                   " World.members(endpoint,members) World.give(endpoint,bounds,target)"
+                   " World.call(client,deal,index) World.again(client,index) World.calm(rounds) World.perform(call)",
+    "judge.replay": "Replay(ranges,cells) Replay.apply(cell,command) replay_of(world) servers_of(keepers,key)"
+                    " whole_rows(keepers)",
+    "judge.explain": "fault_of(history,order) store_behind(history,order)",
 }
 
 

@@ -1,5 +1,6 @@
 """Keys, values, ranges and rows (points [13] and [14])."""
 
+from crosskeep.data.integers import is_integer
 from crosskeep.data.texts import is_text
 
 KEY_SIGNS = 8
@@ -10,8 +11,7 @@ KEY_ALPHABET = "abcdefghijklmnopqrstuvwxyz0123456789"
 
 def is_integer_within(data, most):
     """Return True if data is an integer from -most to most, otherwise False."""
-    # Python counts truth values among the integers; the document does not.
-    return isinstance(data, int) and not isinstance(data, bool) and -most <= data <= most
+    return is_integer(data) and -most <= data <= most
 
 
 def is_key(data):

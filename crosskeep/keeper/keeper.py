@@ -6,6 +6,7 @@ from crosskeep.keeper.holds import Holds
 from crosskeep.keeper.homes import HomeDeal, is_refusal, parts_by_cell
 from crosskeep.keeper.land import Land
 from crosskeep.keeper.moves import Moves
+from crosskeep.keeper.pieces import piece_at
 
 
 class Keeper:
@@ -215,6 +216,14 @@ class Keeper:
     def piece_rows(self):
         """Return a list with the tuple of each piece."""
         return [piece.as_row() for piece in self._land.pieces]
+
+    def piece_row_at(self, key):
+        """Return the tuple of the piece that has the key."""
+        return piece_at(self._land.pieces, key).as_row()
+
+    def epoch_at(self, key):
+        """Return the epoch of the piece that has the key."""
+        return piece_at(self._land.pieces, key).epoch
 
     def key_rows(self):
         """Return a list of the pairs (key, value) of all rows, ascending."""

@@ -1,5 +1,7 @@
 """Indexes, members and ballots (points [32] and [33])."""
 
+from crosskeep.data.integers import is_number
+
 NO_BALLOT = (0, 0)
 MOST_ROUND = 9999
 MOST_MEMBERS = 5
@@ -7,10 +9,12 @@ MOST_INDEX = 6
 
 
 def is_members(members, size):
-    """Return True if a tuple of integers is a tuple of members, all of them below size, otherwise False."""
+    """Return True if data is a tuple of members, all of them below size, otherwise False."""
+    if not isinstance(members, tuple) or not all([is_number(index) for index in members]):
+        return False
     if not 1 <= len(members) <= MOST_MEMBERS or list(members) != sorted(set(members)):
         return False
-    return all([0 <= index <= MOST_INDEX and index < size for index in members])
+    return all([index <= MOST_INDEX and index < size for index in members])
 
 
 def more_than_half(members, indexes):
