@@ -60,6 +60,27 @@ INTERFACE = {
     "judge.replay": "Replay(ranges,cells) Replay.apply(cell,command) replay_of(world) servers_of(keepers,key)"
                     " whole_rows(keepers)",
     "judge.explain": "fault_of(history,order) store_behind(history,order)",
+    "judge.search": "find_order(history)",
+    "script.lines": "write_call(call) read_call(line) write_script(calls) read_script(text)",
+    "script.runs": "run(world,calls) shorten(calls,fails)",
+    "script.explore": "explore(make_world,choices,depth,wanted)",
+    "audit.rows": "row_of_votes(first_members,votes)",
+    "audit.accesses": "Trace(cell,ranges,row)",
+    "audit.audit": "sorted_names(names,pairs) audit(plan,votes,history)",
+}
+
+VALUES = {
+    "data.keys": {"KEY_SIGNS": 8, "VALUE_SIGNS": 20, "MOST_VALUE": 10 ** 15},
+    "data.deeds": {"MOST_NUMBER": 10 ** 9},
+    "data.deals": {"MOST_CHECKS": 4, "MOST_DEEDS": 6},
+    "packing.packs": {"MOST_DEPTH": 40, "MOST_INTEGER": 10 ** 18},
+    "packing.frames": {"MOST_PAYLOAD": 65535, "FRAME_HEAD": 6},
+    "voting.ballots": {"NO_BALLOT": (0, 0), "MOST_ROUND": 9999, "MOST_MEMBERS": 5},
+    "ledger.entries": {"MOST_BATCH": 8, "MOST_WAITING": 16, "MOST_GIVEN": 30},
+    "keeper.pieces": {"OWN": "own", "LEAVING": "leaving", "AWAY": "away"},
+    "world.endpoints": {"CLIENTS": 4, "MOST_CELLS": 4},
+    "judge.search": {"MOST_CALLS": 8},
+    "script.lines": {"WORD_SIGNS": 12},
 }
 
 
@@ -84,6 +105,12 @@ class Interface(unittest.TestCase):
             # A method of a base class would not do.
             thing = vars(vars(module)[holder])[method] if method else vars(module)[holder]
             self.assertEqual(told_by(name, thing), told)
+
+    def test_values(self):
+        for module_name, values in VALUES.items():
+            module = importlib.import_module("crosskeep." + module_name)
+            for name, value in values.items():
+                self.assertEqual(getattr(module, name), value, name)
 
     def test_each_is_defined_in_its_file(self):
         for module, _, name in self.each():

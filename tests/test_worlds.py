@@ -1,4 +1,4 @@
-"""Points [7] to [10], [53] to [55], [79] and [95] to [98]: what is guaranteed of worlds, whatever calls they have had."""
+"""Points [7] to [10], [53] to [55], [79] and [95] to [98]: what is guaranteed of worlds, whatever their calls."""
 
 import unittest
 from collections import Counter

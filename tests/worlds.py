@@ -14,10 +14,10 @@ PROBES = sorted(set(KEYS + BOUNDS[1:-1]))
 
 WEIGHTS = {
     "deliver": 30, "drop": 1, "double": 2, "cut": 0.2, "heal": 0.6, "tick": 12, "sync": 10, "crash": 0.6, "restart": 2,
-    "wipe": 0.05, "members": 0.4, "give": 1.2, "call": 6, "again": 2, "calm": 0.8,
+    "wipe": 0.05, "members": 0.4, "give": 1.2, "call": 6, "again": 2, "calm": 2.5,
 }
-ROUGH = {**WEIGHTS, "drop": 5, "double": 8, "crash": 3, "restart": 3, "calm": 0.1, "wipe": 0.1, "members": 1}
-MOVING = {**WEIGHTS, "give": 8, "members": 2, "calm": 2, "cut": 0}
+ROUGH = {**WEIGHTS, "drop": 5, "double": 8, "crash": 3, "restart": 3, "calm": 1, "wipe": 0.1, "members": 1}
+MOVING = {**WEIGHTS, "give": 6, "members": 2, "calm": 5, "cut": 0}
 
 ONE_CELL = ((1,), ((0,),), (("", 1),), False)
 TWO_CELLS = ((1, 1), ((0,), (0,)), (("", 1), ("m", 2)), False)

@@ -237,6 +237,10 @@ class Keeper:
         """Return a list of the tuples (client, number, home) of all holds, ascending."""
         return sorted([(client, number, hold.home_cell) for (client, number), hold in self._holds.by_name.items()])
 
+    def has_hold(self, client, number):
+        """Return True if the deal has a hold here, otherwise False."""
+        return self._holds.has(client, number)
+
     def home_rows(self):
         """Return a list of the tuples (client, number, outcome or None, rest) of all home deals, ascending."""
         names = sorted(self._home_deals)
