@@ -164,6 +164,35 @@ class Orders(AuditCase):
                              (2, 1, lost, 2, 3, ("busy",)))
         self.check(votes, history, [(0, 1, NONE), (1, 1, NONE)])
 
+    def test_deals_that_were_not_decided_stand_between_no_others(self):
+        # Between the two that were decided, client 2 held their key, and asked and was answered.
+        lost = puts(("a", 5), ("h", 5))
+        first, second = puts(("a", 1)), puts(("a", 2))
+        votes = [votes_of(1, deal_of(1, 1, first), deal_of(2, 1, lost), ("locked", 2, 1, 2, ("busy",)),
+                          deal_of(0, 1, second))]
+        overlap = history_of((1, 1, first, 0, 4, NONE), (0, 1, second, 1, 5, ("done", (1,))),
+                             (2, 1, lost, 2, 3, ("busy",)))
+        self.check(votes, overlap, [(1, 1, NONE), (0, 1, ("done", (1,)))])
+        votes = [votes_of(1, deal_of(1, 1, puts(("b", 1))), deal_of(0, 1, puts(("a", 1))))]
+        history = [(1, 1, puts(("b", 1)), 0, 1, NONE), (2, 1, lost, 2, 3, ("busy",)),
+                   (0, 1, puts(("a", 1)), 4, 5, NONE)]
+        self.check(votes, history, [(1, 1, NONE), (0, 1, NONE)])
+
+    def test_a_call_that_is_answered_late(self):
+        # Client 3 asked first and was answered last; client 2 was answered before client 0 asked.
+        votes = [votes_of(1, *[deal_of(client, 1, puts((key, 1))) for client, key in ((3, "a"), (2, "b"), (0, "c"))])]
+        history = [(3, 1, puts(("a", 1)), 0, 5, NONE), (2, 1, puts(("b", 1)), 1, 2, NONE),
+                   (0, 1, puts(("c", 1)), 3, 4, NONE)]
+        self.check(votes, history, [(2, 1, NONE), (0, 1, NONE), (3, 1, NONE)])
+
+    def test_lesser_epochs_at_a_later_cell(self):
+        bring = ("take", 3, 1, (("p", "q", 2, (("p", 1),)),))
+        votes = [votes_of(1, bring, deal_of(0, 1, puts(("p", 2)), p=1)), [],
+                 votes_of(3, deal_of(2, 1, puts(("q", 1))), deal_of(1, 1, puts(("p", 1))), ("give", 1, "p", "q", 1))]
+        history = history_of((0, 1, puts(("p", 2)), 0, None, None), (1, 1, puts(("p", 1)), 1, None, None),
+                             (2, 1, puts(("q", 1)), 2, None, None))
+        self.check(votes, history, [(1, 1, NONE), (0, 1, ("done", (1,))), (2, 1, NONE)])
+
     def test_epochs_come_before_places(self):
         # The third cell had the key later, though it stands first in its trace.
         bring = ("take", 1, 1, (("a", "b", 2, (("a", 1),)),))

@@ -73,6 +73,10 @@ class Explore(unittest.TestCase):
         self.assertEqual(runs, [[], [DOWN], [UP], [UP, DOWN], [UP, UP]])
         found, runs = self.explore([("never",)], 4, lambda world: False)
         self.assertEqual((found, runs), (None, [[], [("never",)]]))
+        never = ("never",)
+        found, runs = self.explore([UP, never], 3, lambda world: world.at == 2 and world.calls[-1] == never)
+        self.assertEqual((found, runs), (None, [[], [UP], [never], [UP, UP], [UP, never], [UP, UP, UP],
+                                                [UP, UP, never]]))
 
     def test_a_refused_call_leads_to_no_wanted_world(self):
         # The world behind it would be wanted.

@@ -45,7 +45,7 @@ BAD = [
     "tick\t11", "tick,11", "tick(1)", 'tick"a"', "tick-", "tick-1", "t\u00efck", "tick\n", "\ntick",
     # Integers.
     "x 01", "x 00", "x -0", "x -01", "x +1", "x 1.0", "x 1e3", "x 1_000", "x 0x1", "x --1", "x - 1-", "x 1-", "x -1-",
-    "x 1a", "x a", f"x {MOST + 1}", f"x -{MOST + 1}", f"x {10 * MOST}", f"x {'9' * 5000}", f"x -{'9' * 5000}",
+    "x 1a", "x 1x", "x -5x", "x a", f"x {MOST + 1}", f"x -{MOST + 1}", f"x {10 * MOST}", f"x {'9' * 5000}", f"x -{'9' * 5000}",
     "x \u0661", "x \u00b2", "x -\u0661", "x None", "x True",
     # Dashes.
     "x --", "x -a", "x -()", 'x -""', "x - ", "x  -",

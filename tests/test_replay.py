@@ -200,9 +200,10 @@ class WholeRows(unittest.TestCase):
             self.check(keepers, a=1, b=2, d=3, h=4, p=5)
 
     def test_no_writes_of_another_deal(self):
-        # The hold of client 1 is not the home deal of client 0, though it has its number.
+        # The holds of client 1 are not those of the home deal of client 0, though one has its number, one its home.
         keepers, locked = self.wide()
         keepers[1].apply(lock_of(3, 1, 4, puts(("k", 1)), 2))
+        keepers[1].apply(lock_of(1, 1, 9, puts(("l", 1)), 2))
         for told in locked:
             keepers[0].apply(told)
         self.check(keepers, a=6, b=2, d=3, i=7, p=8)

@@ -9,13 +9,13 @@ from crosskeep.judge.explain import ANSWERED, ASKED, fault_of
 
 def audit(plan, votes, history):
     """Return a pair: the order, a list of tuples (client, number, answer), and None; or None and the first fault."""
-    traces = []
+    rows = []
     for cell, told in enumerate(votes, 1):
         row, slot = row_of_votes(plan.members[cell - 1], told)
         if slot is not None:
             return None, ("unlawful", cell, slot)
-        traces.append(Trace(cell, plan.ranges, row))
-    return _audit_of_traces(traces, history)
+        rows.append(row)
+    return _audit_of_traces([Trace(cell, plan.ranges, row) for cell, row in enumerate(rows, 1)], history)
 
 
 def _audit_of_traces(traces, history):

@@ -10,8 +10,8 @@ def row_of_votes(first_members, votes):
     for slot, index, ballot, entry in votes:
         by_slot.setdefault(slot, []).append((index, ballot, entry))
     row = []
-    # The row ends at a slot without votes, if not ahead of it.
-    for slot in range(1, len(by_slot) + 2):
+    # No row has more entries than there are slots with votes.
+    for slot in range(1, len(by_slot) + 1):
         told = by_slot.get(slot, [])
         members = members_of_slot(first_members, row, slot)
         if unlawful_ballot(members, told) is not None:

@@ -16,9 +16,8 @@ class Station:
     def __init__(self, cell, index, plan):
         self.cell = cell
         self.plan = plan
-        self.node = Node(
-            index, plan.sizes[cell - 1], plan.members[cell - 1], lambda: Keeper(cell, plan.ranges), plan.lazy
-        )
+        make_keeper = _maker_of_keepers(cell, plan.ranges)
+        self.node = Node(index, plan.sizes[cell - 1], plan.members[cell - 1], make_keeper, plan.lazy)
         self.turn = index
         self._begin_wait()
         self._said = []
@@ -112,3 +111,7 @@ class Station:
             self._say(sender, ("taken", mover))
         else:
             self.node.offer(body)
+
+
+def _maker_of_keepers(cell, ranges):
+    return lambda: Keeper(cell, ranges)
