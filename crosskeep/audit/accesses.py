@@ -28,9 +28,11 @@ class Trace:
             self._note_lock(*told)
 
     def _note_deal(self, client, number, deal, places):
-        if self.keeper.has_hold(client, number):
+        # A hold does not tell what this command did: a lock may have given it before, and the deal is refused now.
+        answer = self.keeper.answer_of(client, number)
+        if answer is None:
             self._note(client, number, [key for key, cell in places if cell == self._cell])
-        elif is_decided(self.keeper.answer_of(client, number)):
+        elif is_decided(answer):
             self._note(client, number, keys_of(deal))
 
     def _note_lock(self, home, client, number, part):
